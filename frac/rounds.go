@@ -19,8 +19,8 @@ func Nearest(x api.Frac) (api.Whole, api.Errno) {
 	if !May(x) {
 		return zero(), api.ErrArg
 	}
-	// x and a half, rounded down, is right, and too great by 1 at most where
-	// it need not be rounded.
+	// x and a half is rounded down; where nothing is left of that, x lies
+	// midway, and the upper one of both has been taken.
 	two := whole.Of(2)
 	num, _ := whole.Add(times(x.Num, two), x.Den)
 	near, rest, _ := whole.Div(num, times(x.Den, two))
