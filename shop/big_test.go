@@ -21,6 +21,7 @@ func longShop(t *testing.T) *shop.Shop {
 		stmt("point", "odd", number(twos(-4000), over(big.NewInt(1), new(big.Int).Exp(big.NewInt(3), big.NewInt(2600), nil)))),
 		scale("out", l), scale("in", under), scale("wide", twos(4500)), scale("tiny", twos(-8190)), scale("small", twos(-8160)), stmt("map", "both", along(l), along(twos(-8000)), along(zero), along(one)),
 		stmt("line", "steep", number(one, twos(4800)), along(zero)), stmt("round", "ring", along(twos(2000)), along(twos(-2000))), stmt("round", "other", along(twos(2001)), along(twos(-2001))),
+		stmt("line", "flat", number(one, twos(8000)), along(one)), stmt("line", "upright", number(plain(3), one), number(plain(2), twos(-1000))),
 		stmt("disk", "d", along(twos(4801)), along(twos(4800))), stmt("half", "hp", number(plain(3), plain(4)), along(twos(8000))),
 		{Verb: "image", Name: "least", Args: []api.Arg{named("tiny"), named("f")}}, {Verb: "image", Name: "less", Args: []api.Arg{named("small"), named("f")}},
 		stmt("net", "square", count(1), count(1), along(one), along(plain(-1)), along(zero), along(twos(8190)), number(zero, twos(8190))),
@@ -35,7 +36,7 @@ func TestBig(t *testing.T) { // P31.1
 	s := longShop(t)
 	zero, one, l, under := plain(0), plain(1), longest(), twos(1-8*api.MaxWhole)
 	for _, x := range []api.Stmt{
-		read(t, "fourth =z far one low two"), read(t, "bring =z g odd #9"), read(t, "send =z far near low one two inf"), read(t, "circle =z far near low"),
+		read(t, "fourth =z far one low two"), read(t, "bring =z g odd #9"), read(t, "home =z odd"), read(t, "send =z far near low one two inf"), read(t, "circle =z far near low"),
 		stmt("map", "z", along(l), along(zero), along(zero), along(under)), stmt("turn", "z", along(under), along(zero), along(zero), along(l)),
 		read(t, "over =z steep"), read(t, "then =z out out"), read(t, "then =z j in in"), read(t, "back =z both"),
 		stmt("round", "z", along(l), along(one)), stmt("line", "z", number(one, l), number(zero, l)), stmt("mix", "z", named("u"), named("steep"), along(one), along(twos(4000))),
@@ -43,7 +44,7 @@ func TestBig(t *testing.T) { // P31.1
 		read(t, "member =z less #1048576"), read(t, "swap =z least #0"), read(t, "mirrors =z u #1 steep #0"),
 		read(t, "image =z out far"), read(t, "image =z wide ring"), read(t, "image =z out d"), read(t, "image =z tiny least"), read(t, "image =z wide square"),
 		stmt("net", "z", count(1), count(1), along(one), along(plain(-1)), along(l), along(under), number(zero, l)), stmt("flip", "z", named("square"), along(plain(2)), number(zero, under)),
-		read(t, "ratio far near low two"), read(t, "far #1 high low"), read(t, "pack least #1"), read(t, "grow #2 out"), read(t, "draw d"),
+		read(t, "ratio far near low two"), read(t, "meet flat upright"), read(t, "far #1 high low"), read(t, "pack least #1"), read(t, "grow #2 out"), read(t, "draw d"),
 	} {
 		wantDo(t, s, x, nil, api.ErrBig)
 	}
